@@ -1,0 +1,1 @@
+"""Red things among others, drawn and not put back."""
