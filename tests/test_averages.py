@@ -2,18 +2,12 @@ import unittest
 from fractions import Fraction
 from itertools import combinations, product
 
-from helper import GREATEST, ask, average, by_drawing, by_drawing_with_putting_back, last, squared_distance, told
+from helper import (
+    GREATEST, ask, average, average_of, begin, by_drawing, by_drawing_with_putting_back, last, leave,
+    squared_distance, told)
 
 SMALL = [(red, other) for red in range(7) for other in range(7 - red) if red + other > 0]
 CALLS = ("mean", "spread", "spreadback")
-
-
-def begin(red, other):
-    return ("begin", red + other, red)
-
-
-def average_of(numbers):
-    return Fraction(sum(numbers), len(numbers))
 
 
 def distance_of(numbers):
@@ -105,6 +99,51 @@ class Spreadback(unittest.TestCase):
                 calls = (("begin", 24, red), ("spread", n), ("spreadback", n))
                 without, putting_back = [Fraction(*answer[1:]) for answer in ask(*calls)[1:]]
                 self.assertLess(without, putting_back)
+
+
+class Swapped(unittest.TestCase):
+    def test_over_all_sets_with_n_red_ones(self):
+        for red, other in SMALL:
+            for n in range(red + other + 1):
+                reds = reds_without_putting_back(n, red + other - n, red)
+                for k in range(red + other + 2):
+                    expected = told(Fraction(reds.count(k), len(reds)))
+                    self.assertEqual(last(begin(red, other), ("swapped", n, k)), expected)
+                    self.assertEqual(last(*leave(red, other), ("swapped", n, k)), expected)
+
+    def test_of_24_one_draw_after_another(self):
+        for red in range(25):
+            for n in range(25):
+                chances = by_drawing(n, 24 - n, red)
+                calls = [("begin", 24, red)] + [("swapped", n, k) for k in range(26)]
+                self.assertEqual(ask(*calls)[1:], [told(chances.get(k, 0)) for k in range(26)])
+
+    def test_k_of_0(self):
+        self.assertEqual(last(("begin", 5, 2), ("swapped", 0, 0)), [0, 1, 1])
+        self.assertEqual(last(("begin", 5, 2), ("swapped", 3, 0)), [0, 1, 10])
+        self.assertEqual(last(("begin", 5, 2), ("swapped", 0, 1)), [0, 0, 1])
+
+    def test_no_red_ones_and_all_red(self):
+        self.assertEqual(ask(("begin", 24, 0), ("swapped", 9, 0), ("swapped", 9, 1))[1:], [[0, 1, 1], [0, 0, 1]])
+        self.assertEqual(ask(("begin", 24, 24), ("swapped", 9, 9), ("swapped", 9, 8))[1:], [[0, 1, 1], [0, 0, 1]])
+
+    def test_none_left(self):
+        self.assertEqual(
+            ask(("begin", 1, 1), ("draw", 1), ("swapped", 0, 0), ("swapped", 0, 1), ("swapped", 1, 0), "told"),
+            [[0], [0], [0, 1, 1], [0, 0, 1], [-22], [1, 1, 1, 1]])
+
+    def test_more_red_asked_for_than_there_are(self):
+        for k in (3, 4, 5, 6, 24, 25, GREATEST):
+            self.assertEqual(last(("begin", 5, 2), ("swapped", 4, k)), [0, 0, 1])
+
+    def test_more_than_are_left(self):
+        for m in (2, 5, 24):
+            for n in (m + 1, 100, GREATEST):
+                for k in (0, 1, n, GREATEST):
+                    self.assertEqual(ask(("begin", m, 1), ("swapped", n, k), "told")[1:], [[-22], [m, 1, 0, 0]])
+        self.assertEqual(
+            ask(("begin", 4, 2), ("draw", 0), ("swapped", 4, 1), ("swapped", 3, 1), ("swapped", 3, 2)),
+            [[0], [3], [-22], [0, 0, 1], [0, 1, 1]])
 
 
 class AllThree(unittest.TestCase):

@@ -125,5 +125,63 @@ class Back(unittest.TestCase):
             [[0], [1], [-33], [-22], [0], [-12]])
 
 
+class Told(unittest.TestCase):
+    def test_every_size_and_every_number_of_reds(self):
+        for m in range(1, 25):
+            for r in range(m + 1):
+                self.assertEqual(ask(("begin", m, r), "told"), [[0], [m, r, 0, 0]])
+
+    def test_after_each_draw(self):
+        self.assertEqual(
+            ask(("begin", 5, 2), ("draw", 0), "told", ("draw", 1), "told", ("draw", 0), "told", ("draw", 1), "told",
+                ("draw", 0), "told")[2::2],
+            [[5, 2, 1, 0], [5, 2, 2, 1], [5, 2, 3, 1], [5, 2, 4, 2], [5, 2, 5, 2]])
+
+    def test_after_draws_put_back(self):
+        self.assertEqual(
+            ask(("begin", 5, 2), ("draw", 0), ("draw", 1), ("draw", 0), "back", "told", "back", "told", "back", "told",
+                "back", "told")[5::2],
+            [[5, 2, 2, 1], [5, 2, 1, 0], [5, 2, 0, 0], [5, 2, 0, 0]])
+
+    def test_no_red_ones_and_all_red(self):
+        self.assertEqual(
+            ask(("begin", 24, 0), *[("draw", 0)] * 24, "told", "back", "told")[25:],
+            [[24, 0, 24, 0], [0], [24, 0, 23, 0]])
+        self.assertEqual(
+            ask(("begin", 24, 24), *[("draw", 1)] * 24, "told", "back", "told")[25:],
+            [[24, 24, 24, 24], [1], [24, 24, 23, 23]])
+
+    def test_one_thing(self):
+        for r in (0, 1):
+            self.assertEqual(
+                ask(("begin", 1, r), "told", ("draw", r), "told", "back", "told"),
+                [[0], [1, r, 0, 0], [0], [1, r, 1, r], [r], [1, r, 0, 0]])
+
+    def test_after_another_begin(self):
+        self.assertEqual(
+            ask(("begin", 5, 2), ("draw", 1), ("begin", 7, 4), "told"), [[0], [4], [0], [7, 4, 0, 0]])
+
+    def test_refused_calls_change_nothing(self):
+        refused = (
+            ("begin", 0, 0), ("begin", 25, 1), ("begin", 3, 4), ("draw", 2), ("draw", 1), ("just", 4, 0),
+            ("all_of", 4), ("likeliest", 4), ("mean", 4), ("spread", 4), ("spreadback", 4), ("atleast", 4, 0),
+            ("needed", 1, 1, 1), ("needed", 0, 1, 0), ("kthat", 1, 1), ("kthmean", 1), ("two", 2, 0),
+            ("swapped", 4, 0), ("guess", 4, 0), ("guess", 1, 2), ("certain", 1))
+        for call in refused:
+            given = ask(("begin", 5, 2), ("draw", 1), ("draw", 1), call, "told", ("all_of", 1), "back", "back", "back")
+            self.assertLess(given[3][0], 0)
+            self.assertEqual(given[4:], [[5, 2, 2, 2], [2, 3, 0], [1], [1], [-12]])
+
+    def test_questions_change_nothing(self):
+        questions = (
+            "chance", ("just", 2, 1), ("all_of", 3), ("likeliest", 2), ("mean", 2), ("spread", 2), ("spreadback", 2),
+            ("atleast", 2, 1), ("needed", 1, 1, 2), ("kthat", 1, 2), ("kthmean", 1), ("two", 0, 1), ("swapped", 2, 1),
+            ("guess", 2, 1), ("certain", 1), "told")
+        for call in questions:
+            given = ask(("begin", 6, 3), ("draw", 1), ("draw", 0), call, "told", ("all_of", 1), "back", "back", "back")
+            self.assertGreaterEqual(given[3][0], 0)
+            self.assertEqual(given[4:], [[6, 3, 2, 1], [2, 2, 2], [0], [1], [-12]])
+
+
 if __name__ == "__main__":
     unittest.main()

@@ -7,7 +7,7 @@ import io
 import unittest
 from pathlib import Path
 
-from helper import line
+from helper import COUNTS, NUMBERS
 from redthings.drawing import answers
 
 PACKAGE = Path(__file__).resolve().parent.parent / "redthings"
@@ -80,7 +80,9 @@ class Quiet(unittest.TestCase):
         out = io.StringIO()
         err = io.StringIO()
         with contextlib.redirect_stdout(out), contextlib.redirect_stderr(err):
-            answers(line("back", ("begin", 25, 0), ("begin", 5, 2), ("draw", 1), ("all_of", 3), ("spread", 9)))
+            for begun in ([], [0, 24, 9]):
+                for name, number in NUMBERS.items():
+                    answers(begun + [number] + [1] * COUNTS[name])
         self.assertEqual((out.getvalue(), err.getvalue()), ("", ""))
 
 

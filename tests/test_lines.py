@@ -1,14 +1,19 @@
 import random
 import unittest
+from itertools import product
 
-from helper import GREATEST, Model, ask, cut, line
+from helper import COUNTS, GREATEST, NUMBERS, Model, ask, cut, line
 from redthings.drawing import answers
 
 ELSE = (
     ("draw", 0), ("draw", 1), ("draw", 2), ("draw", GREATEST), ("back",), ("chance",),
     ("just", 0, 0), ("just", GREATEST, GREATEST), ("all_of", 0), ("all_of", GREATEST),
     ("likeliest", 0), ("likeliest", 25), ("mean", 0), ("mean", 25), ("spread", 0), ("spread", 25),
-    ("spreadback", 0), ("spreadback", 25),
+    ("spreadback", 0), ("spreadback", 25), ("atleast", 0, 0), ("atleast", GREATEST, GREATEST),
+    ("needed", 0, 0, 1), ("needed", GREATEST, GREATEST, GREATEST), ("kthat", 1, 1), ("kthat", GREATEST, GREATEST),
+    ("kthmean", 1), ("kthmean", GREATEST), ("two", 0, 0), ("two", GREATEST, GREATEST), ("swapped", 0, 0),
+    ("swapped", GREATEST, GREATEST), ("guess", 0, 0), ("guess", GREATEST, GREATEST), ("certain", 0),
+    ("certain", GREATEST), ("told",),
 )
 
 
@@ -58,6 +63,29 @@ class Layout(unittest.TestCase):
             1, -12,
         ])
 
+    def test_number_by_number_of_the_other_nine(self):
+        calls = [18, 0, 5, 2, 10, 3, 1, 11, 1, 2, 3, 12, 2, 3, 13, 2, 14, 1, 0, 15, 3, 1, 16, 3, 1, 17, 2, 1, 0, 18]
+        self.assertEqual(answers(calls), [
+            1, -11,
+            1, 0,
+            3, 0, 9, 10,
+            1, 2,
+            3, 0, 1, 5,
+            3, 0, 4, 1,
+            3, 0, 3, 10,
+            3, 0, 3, 5,
+            1, 1,
+            1, 5,
+            1, 4,
+            4, 5, 2, 1, 0,
+        ])
+
+    def test_each_number_and_how_many_arguments_stand_behind_it(self):
+        for name, number in NUMBERS.items():
+            calls = [number] + [GREATEST] * COUNTS[name] + [0, 3, 1, 3]
+            refused = -22 if name == "begin" else -11
+            self.assertEqual(answers(calls), [1, refused, 1, 0, 3, 0, 1, 3])
+
     def test_one_call(self):
         self.assertEqual(answers([0, 24, 24]), [1, 0])
         self.assertEqual(answers([2]), [1, -11])
@@ -71,6 +99,12 @@ class Layout(unittest.TestCase):
     def test_80_calls_with_the_greatest_numbers(self):
         calls = [("begin", 24, 7)] + [("begin", GREATEST, GREATEST), ("just", GREATEST, GREATEST)] * 39 + ["chance"]
         self.assertEqual(ask(*calls), [[0]] + [[-22]] * 78 + [[0, 7, 24]])
+
+    def test_80_calls_that_need_most_numbers(self):
+        # Of 24 things 7 may be taken in 346104 ways, of 11 in 330, of 12 in 792.
+        calls = [("begin", 24, 7)] + [("needed", 7, 1, 1000)] * 79
+        self.assertEqual(len(line(*calls)), 319)
+        self.assertEqual(ask(*calls), [[0]] + [[12]] * 79)
 
     def test_only_the_first_number_is_below_0(self):
         for call in ELSE:
@@ -108,6 +142,28 @@ class NothingKept(unittest.TestCase):
         self.assertEqual(answers(calls), kept)
 
 
+def states():
+    """Calls that leave all, some, one or none, red ones or others or both."""
+    return (
+        [("begin", 1, 0)], [("begin", 1, 1)], [("begin", 2, 1)], [("begin", 5, 2)], [("begin", 24, 0)],
+        [("begin", 24, 24)], [("begin", 24, 9)], [("begin", 1, 0), ("draw", 0)], [("begin", 2, 2)] + [("draw", 1)] * 2,
+        [("begin", 24, 9)] + [("draw", 1)] * 8 + [("draw", 0)] * 14, [("begin", 6, 3)] + [("draw", 1)] * 3,
+        [("begin", 6, 3)] + [("draw", 0)] * 3, [("begin", 6, 3), ("draw", 1), ("draw", 0), ("back",)],
+    )
+
+
+class EveryArgument(unittest.TestCase):
+    NUMBERS_TO_TRY = (0, 1, 2, 3, 5, 6, 23, 24, 25, 999, 1000, 1001, 65536, GREATEST - 1, GREATEST)
+
+    def test_against_the_model(self):
+        for name, count in COUNTS.items():
+            for state in states():
+                for given in product(self.NUMBERS_TO_TRY, repeat=count):
+                    calls = state + [(name, *given), ("told",)]
+                    model = Model()
+                    self.assertEqual(ask(*calls), [model.answer(call) for call in calls], calls)
+
+
 def some_number(source, most):
     if source.random() < 0.2:
         return source.choice((2, 25, GREATEST))
@@ -115,28 +171,50 @@ def some_number(source, most):
 
 
 def some_call(source):
-    name = source.choice((
-        "draw", "draw", "draw", "draw", "back", "back", "chance", "just", "just",
-        "all_of", "likeliest", "mean", "spread", "spreadback"))
-    if source.random() < 0.04:
-        return ("begin", some_number(source, 12), some_number(source, 8))
-    if name == "draw":
-        return (name, some_number(source, 1))
-    if name in ("back", "chance"):
-        return (name,)
-    if name == "just":
-        return (name, some_number(source, 9), some_number(source, 5))
-    return (name, some_number(source, 9))
+    name = source.choice(tuple(NUMBERS) + ("draw", "draw", "draw", "draw", "back", "back"))
+    if name == "begin" and source.random() < 0.5:
+        return (name, 24, source.randint(0, 24))
+    if name in ("draw", "two"):
+        return (name, *[some_number(source, 1) for place in range(COUNTS[name])])
+    if name == "needed" and source.random() < 0.7:
+        below = source.choice((1, 2, 3, 10, 1000))
+        return (name, source.randint(0, 6), source.randint(0, below), below)
+    return (name, *[some_number(source, 9) for place in range(COUNTS[name])])
+
+
+def some_call_named(source, name):
+    if name == "needed":
+        return (name, source.randint(0, 4), source.randint(0, 1000), 1000)
+    if name in ("draw", "two"):
+        return (name, *[source.randint(0, 1) for place in range(COUNTS[name])])
+    return (name, *[source.randint(0, 5) for place in range(COUNTS[name])])
 
 
 class LongLines(unittest.TestCase):
     def test_lines_of_80_calls_against_the_model(self):
         source = random.Random(5)
-        for turn in range(150):
+        for turn in range(300):
             start = [("begin", 24, source.randint(0, 24))] if turn % 2 else []
             calls = start + [some_call(source) for step in range(80 - len(start))]
             model = Model()
             self.assertEqual(ask(*calls), [model.answer(call) for call in calls])
+
+    def test_all_nineteen_kinds_in_each_line(self):
+        source = random.Random(6)
+        for turn in range(100):
+            begun = [("begin", 24, source.randint(6, 18))] + [("draw", source.randint(0, 1)) for step in range(4)]
+            calls = [some_call_named(source, name) for name in NUMBERS if name != "begin"] * 4
+            source.shuffle(calls)
+            calls = begun + calls + [("told",), ("begin", 3, 1), ("told",)]
+            self.assertEqual(len(calls), 80)
+            self.assertLessEqual(len(line(*calls)), 330)
+            model = Model()
+            before = line(*calls)
+            handed_in = list(before)
+            first = answers(handed_in)
+            self.assertEqual(cut(first), [model.answer(call) for call in calls])
+            self.assertEqual(handed_in, before)
+            self.assertEqual(answers(handed_in), first)
 
 
 if __name__ == "__main__":
